@@ -1,0 +1,1 @@
+"""One of many that know each other by nearness."""
