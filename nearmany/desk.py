@@ -54,6 +54,34 @@ def call_ping(one, calls):
     return [one.ping(calls.take_name())]
 
 
+def call_search(one, calls):
+    value = calls.take_number()
+    return [one.search(calls.take_name(), value)]
+
+
+def call_result(one, calls):
+    return one.result(calls.take_number())
+
+
+def call_value(one, calls):
+    return one.value(calls.take_number())
+
+
+def call_store(one, calls):
+    name = calls.take_name()
+    key = calls.take_name()
+    return [one.store(name, key, calls.take_row())]
+
+
+def call_send(one, calls):
+    return one.send(calls.take_number())
+
+
+def call_near(one, calls):
+    k = calls.take_number()
+    return one.near(calls.take_name(), k)
+
+
 CALLS = {
     0: call_begin,
     1: call_own,
@@ -61,6 +89,12 @@ CALLS = {
     3: call_come,
     4: call_time,
     5: call_ping,
+    6: call_search,
+    7: call_result,
+    8: call_value,
+    9: call_store,
+    10: call_send,
+    11: call_near,
 }
 
 

@@ -101,12 +101,19 @@ def name_octets(name):
     return octets_of(name, NAME_OCTETS)
 
 
+def address_octets(address):
+    return octets_of(address, ADDRESS_OCTETS)
+
+
 def people_octets(people):
     octets = [len(people)]
     for someone in people:
-        octets.extend(name_octets(someone.name))
-        octets.extend(octets_of(someone.address, ADDRESS_OCTETS))
+        octets.extend(someone_octets(someone))
     return octets
+
+
+def someone_octets(someone):
+    return name_octets(someone.name) + address_octets(someone.address)
 
 
 def content_octets(content):

@@ -6,6 +6,8 @@ from nearmany.letters import (
     I_AM_HERE,
     IT_IS_KEPT,
     KEEP_THIS,
+    LONGEST_CONTENT,
+    SOMEONE_OCTETS,
     THE_VALUE,
     THESE_ARE,
     VALUE_WANTED,
@@ -15,18 +17,31 @@ from nearmany.letters import (
     name_octets,
     people_octets,
     read_letter,
+    someone_octets,
 )
 from nearmany.post import Post
-from nearmany.search import Outcome
+from nearmany.search import Outcome, Search
 from nearmany.shelf import Shelf
 
 ADDRESSES = 0x1000000000000
 LONGEST_LETTER = 1024
 LONGEST_TIME = 10000000
 MOST_OPEN = 64
+MOST_ROOM = 4096
 ASKING_KINDS = (0, 2, 4, 6)
 
 
+# A most outside the range is as if there were no room at all.
+def room_of(most):
+    return most if most >= 1 and most <= MOST_ROOM else 0
+
+
+def has_place(people, k):
+    return k >= 0 and k < len(people)
+
+
+# begin, own, know, come, time, ping, search and store give back their one number;
+# result, value, send and near a list: the number, and what stands behind it.
 class One:
     def __init__(self):
         self.become(0, 0)
@@ -80,11 +95,67 @@ class One:
         someone = self.buckets.known_by(name)
         if someone is None:
             return -1
-        # A search may have opened more than that many.
-        if len(self.post.unanswered) >= MOST_OPEN:
+        if self.has_most_open():
             return -2
         self.post.ask(someone, ARE_YOU_THERE, [], self.now, False)
         return 0
+
+    def search(self, name, value):
+        if self.quest is not None or self.has_most_open():
+            return -2
+        nearest = self.buckets.nearest(name)
+        if len(nearest) == 0:
+            return -3
+        self.outcome = None
+        self.quest = Search(name, value != 0, nearest)
+        self.go_on()
+        return 0
+
+    def result(self, k):
+        if self.outcome is None:
+            return [-3]
+        people = self.outcome.people
+        if k == -1:
+            return [len(people)] + [0] * SOMEONE_OCTETS
+        if not has_place(people, k):
+            return [-1]
+        return [len(people)] + someone_octets(people[k])
+
+    def value(self, most):
+        if self.outcome is None or self.outcome.content is None:
+            return [-3]
+        content = self.outcome.content
+        if len(content) > room_of(most):
+            return [-2]
+        return [len(content)] + content
+
+    def store(self, name, key, content):
+        someone = self.buckets.known_by(name)
+        if len(content) > LONGEST_CONTENT or someone is None:
+            return -1
+        if self.has_most_open():
+            return -2
+        self.post.ask(someone, KEEP_THIS, name_octets(key) + content_octets(content), self.now, False)
+        return 0
+
+    def send(self, most):
+        octets = self.post.first_with_address()
+        if octets is None:
+            return [-3]
+        if len(octets) > room_of(most):
+            return [-2]
+        self.post.first_is_sent()
+        return [len(octets)] + octets
+
+    def near(self, name, k):
+        people = self.buckets.nearest(name)
+        if not has_place(people, k):
+            return [-1]
+        return [len(people)] + someone_octets(people[k])
+
+    # A search may have opened more than that many.
+    def has_most_open(self):
+        return len(self.post.unanswered) >= MOST_OPEN
 
     # The answer is made first: it tells the nearest as they were before the sender was heard.
     def answer_letter(self, letter, address):

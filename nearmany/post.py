@@ -1,7 +1,7 @@
 """The post: letters that wait to be sent, and letters asked that are open."""
 
 from nearmany.chance import Chance
-from nearmany.letters import letter_octets
+from nearmany.letters import address_octets, letter_octets
 
 MOST_OUTGOING = 256
 LATE_AFTER = 1000
@@ -36,6 +36,15 @@ class Post:
     def put(self, address, octets):
         if len(self.outgoing) < MOST_OUTGOING:
             self.outgoing.append((address, octets))
+
+    # None where no letter waits to be sent.
+    def first_with_address(self):
+        if len(self.outgoing) == 0:
+            return None
+        return address_octets(self.outgoing[0][0]) + self.outgoing[0][1]
+
+    def first_is_sent(self):
+        self.outgoing.pop(0)
 
     # A letter that is lost for want of room is open all the same: it was asked.
     def ask(self, someone, kind, rest, now, of_search):

@@ -2,7 +2,6 @@
 
 from nearmany.desk import answers_of
 from nearmany.one import One
-from nearmany.search import Search
 
 OWN = 0xA1B2C3D4E5F60718293A4B5C6D7E8F9012345678
 NAMES = 1 << 160
@@ -48,6 +47,30 @@ def ping_call(name):
     return [5, 20, *name_bytes(name)]
 
 
+def search_call(name, value=0):
+    return [6, value, 20, *name_bytes(name)]
+
+
+def result_call(k):
+    return [7, k]
+
+
+def value_call(most):
+    return [8, most]
+
+
+def store_call(name, key, value):
+    return [9, 20, *name_bytes(name), 20, *name_bytes(key), len(value), *value]
+
+
+def send_call(most):
+    return [10, most]
+
+
+def near_call(name, k):
+    return [11, k, 20, *name_bytes(name)]
+
+
 def letter_bytes(kind, mark, sender, rest=b""):
     return bytes([kind]) + mark.to_bytes(8, "big") + name_bytes(sender) + rest
 
@@ -58,6 +81,12 @@ def people_bytes(people):
 
 def value_bytes(value):
     return len(value).to_bytes(2, "big") + value
+
+
+def read_someone(octets):
+    """The name and the address in 26 bytes."""
+    assert len(octets) == 26, octets
+    return int.from_bytes(octets[:20], "big"), int.from_bytes(octets[20:], "big")
 
 
 def chance_numbers(seed, how_many):
@@ -90,10 +119,17 @@ class Line:
         self.call(begin_call())
         self.call(own_call(name, seed))
 
-    def call(self, numbers):
+    def ask(self, numbers):
+        """All numbers that one call answers."""
         given = answers_of(self.one, numbers)
-        assert given[0] == 1 and len(given) == 2, given
-        return given[1]
+        assert given[0] == len(given) - 1, given
+        return given[1:]
+
+    def call(self, numbers):
+        """The one number that a call answers."""
+        given = self.ask(numbers)
+        assert len(given) == 1, given
+        return given[0]
 
     def know(self, name, address=1):
         return self.call(know_call(name, address))
@@ -106,6 +142,33 @@ class Line:
 
     def ping(self, name):
         return self.call(ping_call(name))
+
+    def search(self, name, value=0):
+        return self.call(search_call(name, value))
+
+    def result(self, k):
+        return self.ask(result_call(k))
+
+    def value(self, most):
+        return self.ask(value_call(most))
+
+    def store(self, name, key, value):
+        return self.call(store_call(name, key, value))
+
+    def send(self, most=4096):
+        return self.ask(send_call(most))
+
+    def near(self, name, k):
+        return self.ask(near_call(name, k))
+
+    def nearest(self, name):
+        """All that near tells of a name."""
+        first = self.near(name, 0)
+        how_many = max(first[0], 0)
+        rows = [self.near(name, k) for k in range(how_many)]
+        assert [row[0] for row in rows] == [how_many] * how_many, rows
+        assert self.near(name, how_many) == [-1]
+        return [read_someone(row[1:]) for row in rows]
 
     def pinged(self, name):
         """The mark of a ping that is asked now."""
@@ -140,9 +203,13 @@ class Line:
         return [(address, bytes(octets)) for address, octets in self.one.post.outgoing]
 
     def sent(self):
-        """The letters that wait to be sent; they wait no longer."""
-        letters = self.outgoing()
-        self.one.post.outgoing.clear()
+        """The letters that wait to be sent, with their addresses; they wait no longer."""
+        letters = []
+        given = self.send()
+        while given != [-3]:
+            assert given[0] == len(given) - 1, given
+            letters.append((int.from_bytes(given[1:7], "big"), bytes(given[7:])))
+            given = self.send()
         return letters
 
     def open_letters(self):
@@ -151,18 +218,20 @@ class Line:
     def kept(self):
         return {name: bytes(self.one.shelf.content_of(name)) for name in self.one.shelf.kept}
 
-    def start_search(self, name, for_value=False):
-        self.one.quest = Search(name, for_value, self.one.buckets.nearest(name))
-        self.one.go_on()
-
     def found(self):
         return [(other.name, other.address, other.state) for other in self.one.quest.found]
 
     def outcome(self):
-        """Who the search's result is, and the value."""
-        outcome = self.one.outcome
-        content = None if outcome.content is None else bytes(outcome.content)
-        return [(someone.name, someone.address) for someone in outcome.people], content
+        """Who the search's result is, and the value, where it is one; None where there's no result."""
+        how_many = self.result(-1)
+        if how_many == [-3]:
+            return None
+        assert how_many[1:] == [0] * 26, how_many
+        rows = [self.result(k) for k in range(how_many[0])]
+        assert [row[0] for row in rows] == how_many[:1] * how_many[0], rows
+        assert self.result(how_many[0]) == [-1]
+        value = self.value(4096)
+        return [read_someone(row[1:]) for row in rows], None if value == [-3] else bytes(value[1:])
 
 
 def full_bucket(bit=100, waiting=0):

@@ -32,7 +32,7 @@ def busy_line():
     line.ping(FRIEND)
     line.keep(0, b"value", FRIEND)
     line.come(3, letter_bytes(2, 1, FRIEND, name_bytes(OWN)))
-    line.start_search(FRIEND)
+    line.search(FRIEND)
     return line
 
 
@@ -59,10 +59,13 @@ class Begin(unittest.TestCase):
 
     def test_behind_a_search_that_is_over(self):
         line = Line()
-        line.start_search(FRIEND)
-        self.assertIsNotNone(line.one.outcome)
+        line.know(FRIEND)
+        line.search(FRIEND)
+        line.time(1000)
+        self.assertEqual(line.outcome(), ([], None))
         line.call(begin_call())
         self.assertEqual(line.held(), plain(One()))
+        self.assertEqual(line.result(-1), [-3])
 
     def test_twice(self):
         line = busy_line()

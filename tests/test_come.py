@@ -260,7 +260,7 @@ class LettersThatWaitToBeSent(unittest.TestCase):
 
     def test_once_one_is_sent_there_is_room(self):
         line = self.full_post()
-        line.one.post.outgoing.pop(0)
+        self.assertEqual(line.send(35), [35, 0, 0, 0, 0, 0, 0, *letter_bytes(1, 0, OWN)])
         line.come(8, letter_bytes(0, MARK, SENDER))
         self.assertEqual(len(line.outgoing()), 256)
         self.assertEqual(line.outgoing()[-1], (8, letter_bytes(1, MARK, OWN)))

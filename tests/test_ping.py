@@ -125,7 +125,7 @@ class SixtyFourOpen(unittest.TestCase):
         line.know(FRIEND, 5)
         for k in range(63):
             self.assertEqual(line.ping(FRIEND), 0)
-        line.start_search(in_bucket(60))
+        self.assertEqual(line.search(in_bucket(60)), 0)
         self.assertEqual(len(line.open_letters()), 66)
         self.assertEqual(line.ping(FRIEND), -2)
 

@@ -1,55 +1,10 @@
-"""Promises 4 and 5: what come and time do to a search that is going on."""
+"""A search as it goes on: what letters that come, and time that goes by, do to it."""
 
 import unittest
 
 from nearmany.search import ANSWERED, ASKED, NOT_ASKED, SILENT
-from tests.helper import OWN, Line, chance_numbers, in_bucket, letter_bytes, name_bytes, people_bytes, value_bytes
-
-# Names are told by how far they are from the one that's searched: person(1) is the nearest to it.
-# All of them are in the bucket of the one that's searched.
-BUCKET = 150
-TARGET = in_bucket(BUCKET)
-
-
-def person(distance):
-    return TARGET ^ distance
-
-
-def people(distances):
-    return [(person(distance), 100 + distance) for distance in distances]
-
-
-class SearchTest(unittest.TestCase):
-    def search(self, distances, for_value=False, target=TARGET):
-        self.line = Line()
-        for name, address in people(distances):
-            self.assertEqual(self.line.know(name, address), 0)
-        self.line.start_search(target, for_value)
-        return self.line
-
-    def marks(self, distance):
-        return [mark for kind, mark, name, address in self.line.open_letters() if name == person(distance)]
-
-    def comes(self, distance, kind, rest, mark=None):
-        mark = self.marks(distance)[-1] if mark is None else mark
-        self.assertEqual(self.line.come(100 + distance, letter_bytes(kind, mark, person(distance), rest)), 1)
-
-    def these_are(self, distance, distances):
-        self.comes(distance, 3, people_bytes(people(distances)))
-
-    def states(self):
-        return {name ^ TARGET: state for name, address, state in self.line.found()}
-
-    def in_state(self, state):
-        return [distance for distance, each in self.states().items() if each == state]
-
-    def is_over_with(self, distances, value=None):
-        self.assertIsNone(self.line.one.quest)
-        self.assertEqual(self.line.outcome(), (people(distances), value))
-
-    def is_going_on(self):
-        self.assertIsNotNone(self.line.one.quest)
-        self.assertIsNone(self.line.one.outcome)
+from tests.helper import OWN, chance_numbers, in_bucket, letter_bytes, name_bytes, people_bytes, value_bytes
+from tests.searching import BUCKET, TARGET, SearchTest, knowing, people, person
 
 
 class GoingOn(SearchTest):
@@ -110,34 +65,28 @@ class GoingOn(SearchTest):
         self.assertEqual(len(line.open_letters()), 3)
 
     def test_a_late_ping_is_not_the_searchs(self):
-        line = Line()
-        for name, address in people([1, 2, 3, 4]):
-            line.know(name, address)
+        line = knowing([1, 2, 3, 4])
         line.ping(person(1))
         line.time(500)
-        line.start_search(TARGET)
+        self.assertEqual(line.search(TARGET), 0)
         self.line = line
         line.time(500)
         self.assertEqual(self.states(), {1: ASKED, 2: ASKED, 3: ASKED, 4: NOT_ASKED})
         self.assertEqual(len(line.open_letters()), 3)
 
     def test_a_letter_lost_for_want_of_room_is_asked_all_the_same(self):
-        line = Line()
-        for name, address in people([1, 2, 3, 4]):
-            line.know(name, address)
+        line = knowing([1, 2, 3, 4])
         for mark in range(256):
             line.come(9, letter_bytes(0, mark, in_bucket(3)))
-        line.start_search(TARGET)
+        self.assertEqual(line.search(TARGET), 0)
         self.assertEqual(len(line.open_letters()), 3)
         self.assertEqual(len(line.outgoing()), 256)
 
     def test_more_than_64_may_be_open(self):
-        line = Line()
-        for name, address in people([1, 2, 3, 4]):
-            line.know(name, address)
+        line = knowing([1, 2, 3, 4])
         for k in range(63):
             line.ping(person(4))
-        line.start_search(TARGET)
+        self.assertEqual(line.search(TARGET), 0)
         self.line = line
         self.these_are(1, [])
         self.assertEqual(len(line.open_letters()), 66)
@@ -220,6 +169,30 @@ class Finding(SearchTest):
         self.assertEqual(len(self.states()), 64)
 
 
+class Far(SearchTest):
+    def test_those_who_are_farther_are_counted_where_there_are_few(self):
+        self.search([1, 2, 3])
+        self.these_are(1, [60, 50])
+        self.assertEqual(self.states(), {1: ANSWERED, 2: ASKED, 3: ASKED, 50: ASKED, 60: NOT_ASKED})
+        for distance in (2, 3, 50, 60):
+            self.these_are(distance, [])
+        self.is_over_with([1, 2, 3, 50, 60])
+
+    def test_those_who_are_farther_than_eight_are_not_asked(self):
+        line = self.search(range(1, 9))
+        self.these_are(1, range(51, 59))
+        for distance in range(2, 9):
+            self.these_are(distance, [distance + 60])
+        self.is_over_with(range(1, 9))
+        self.assertEqual(len(line.sent()), 8)
+
+    def test_who_is_told_with_another_address_is_asked_where_they_were_first(self):
+        line = self.search([5])
+        self.comes(5, 3, people_bytes([(person(1), 9), (person(1), 8)]))
+        line.send()
+        self.assertEqual(line.sent(), [(9, letter_bytes(2, chance_numbers(0, 2)[1], OWN, name_bytes(TARGET)))])
+
+
 class Counted(SearchTest):
     def test_only_the_first_eight_are_asked(self):
         self.search([11, 12, 13])
@@ -295,10 +268,6 @@ class Over(SearchTest):
         self.these_are(2, [])
         self.is_over_with([1, 2, 3])
 
-    def test_at_once_where_nobody_is_known(self):
-        self.search([])
-        self.is_over_with([])
-
     def test_when_all_are_silent(self):
         self.search([1, 2])
         self.line.time(1000)
@@ -357,8 +326,7 @@ class Over(SearchTest):
         line = self.search([1, 2, 3, 4], True)
         self.comes(2, 5, value_bytes(b"value"))
         old = self.marks(1)[0]
-        line.one.outcome = None
-        line.start_search(TARGET)
+        self.assertEqual(line.search(TARGET), 0)
         self.comes(1, 3, people_bytes(people([9])), mark=old)
         self.assertEqual(self.states(), {1: ASKED, 2: ASKED, 3: ASKED, 4: NOT_ASKED})
         self.is_going_on()
@@ -403,6 +371,63 @@ class LateLetters(SearchTest):
         self.is_over_with([])
         self.assertEqual(line.open_letters(), [])
         self.assertEqual(line.everyone_known(), [])
+
+    def test_late_letters_on_both_sides_of_the_searchs_end(self):
+        line = knowing([1, 2, 3])
+        line.ping(person(3))
+        line.search(TARGET)
+        line.ping(person(2))
+        self.line = line
+        self.these_are(3, [])
+        line.time(1000)
+        self.is_over_with([3])
+        self.assertEqual(line.open_letters(), [])
+        self.assertEqual(line.silent_once(BUCKET), [person(1), person(3)])
+        self.assertEqual(line.nearest(TARGET), people([1, 3]))
+
+    def test_letters_of_a_search_that_is_over_late_amid_those_of_another(self):
+        line = self.search([1, 2, 3, 4, 5], True)
+        self.comes(2, 5, value_bytes(b"value"))
+        line.sent()
+        self.assertEqual(line.search(TARGET), 0)
+        self.assertEqual([to for to, octets in line.sent()], [101, 102, 103])
+        line.time(1000)
+        self.assertEqual(self.states(), {1: SILENT, 2: SILENT, 3: SILENT, 4: ASKED, 5: ASKED})
+        self.assertEqual([to for to, octets in line.sent()], [104, 105])
+        self.assertEqual(line.nearest(TARGET), people([2, 4, 5]))
+
+    def test_each_late_letter_lets_one_be_asked(self):
+        line = self.search(range(1, 9))
+        line.sent()
+        line.time(400)
+        self.these_are(2, [])
+        self.assertEqual([to for to, octets in line.sent()], [104])
+        line.time(600)
+        self.assertEqual([to for to, octets in line.sent()], [105, 106])
+        self.assertEqual(self.in_state(ASKED), [4, 5, 6])
+        line.time(400)
+        self.assertEqual([to for to, octets in line.sent()], [107])
+        self.assertEqual(self.in_state(SILENT), [1, 3, 4])
+
+    def test_late_letters_where_more_than_64_are_open(self):
+        line = knowing([1, 2, 3, 4, 5, 6])
+        for k in range(63):
+            self.assertEqual(line.ping(person(6)), 0)
+        self.assertEqual(line.search(TARGET), 0)
+        line.sent()
+        line.time(1000)
+        self.line = line
+        self.assertEqual(self.states(), {1: SILENT, 2: SILENT, 3: SILENT, 4: ASKED, 5: ASKED, 6: ASKED})
+        self.assertEqual([to for to, octets in line.sent()], [104, 105, 106])
+        self.assertEqual(line.nearest(TARGET), people([1, 2, 3, 4, 5]))
+
+    def test_who_is_silent_under_an_address_that_is_not_the_known_one(self):
+        line = self.search([5])
+        line.know(person(1), 7)
+        self.these_are(5, [1])
+        line.time(1000)
+        self.is_over_with([5])
+        self.assertEqual(line.silent_once(BUCKET), [])
 
     def test_an_answer_behind_a_late_letter_is_nothing(self):
         line = self.search([1, 2, 3, 4])
